@@ -1,0 +1,1 @@
+"""Earlywrite: digits that are written while digits are read."""

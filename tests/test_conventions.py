@@ -1,0 +1,139 @@
+"""Promises [1] and [2]: exact results, arguments that are copied and never modified, documented names."""
+
+import copy
+import inspect
+import unittest
+from fractions import Fraction
+
+from earlywrite import digits, lines, rationals
+from earlywrite.digits import DigitSet, combined
+from earlywrite.errors import InvalidPoints, InvalidRow, OutOfRange
+from earlywrite.lines import LineFunction, add_lines, compose_lines, max_lines, restrict_line, scale_line, straight
+from helpers import BINARY, pair, points
+
+ROWS = points([(0, 0), (1, 3), (2, 2)])
+
+FUNCTIONS = {
+    rationals: {"fraction": "numerator, denominator=1", "fraction_text": "value"},
+    digits: {"combined": "sets, factors"},
+    lines: {
+        "straight": "slope, offset, low, high", "add_lines": "one, other", "max_lines": "one, other",
+        "min_lines": "one, other", "scale_line": "function, factor", "abs_line": "function",
+        "restrict_line": "function, low, high", "compose_lines": "outer, inner",
+    },
+}
+METHODS = {
+    DigitSet: {
+        "__init__": "self, base, digits", "low": "self", "high": "self", "is_redundant": "self",
+        "value": "self, row", "row_of": "self, number, count",
+    },
+    LineFunction: {
+        "__init__": "self, points", "points": "self", "low": "self", "high": "self", "least": "self",
+        "greatest": "self", "value": "self, number",
+    },
+}
+
+
+class InterfaceTest(unittest.TestCase):
+    def test_functions(self):
+        for module, functions in FUNCTIONS.items():
+            for name, parameters in functions.items():
+                with self.subTest(name):
+                    self.assertEqual(str(inspect.signature(getattr(module, name))), f"({parameters})")
+
+    def test_methods_stand_in_their_class(self):
+        for owner, methods in METHODS.items():
+            for name, parameters in methods.items():
+                with self.subTest(f"{owner.__name__}.{name}"):
+                    self.assertEqual(str(inspect.signature(vars(owner)[name])), f"({parameters})")
+
+
+class ArgumentsTest(unittest.TestCase):
+    def test_tuples_instead_of_lists(self):
+        self.assertEqual(DigitSet(2, [1, -1, 0]), DigitSet(2, (1, -1, 0)))
+        self.assertEqual(combined([BINARY, BINARY], [1, 2]), combined((BINARY, BINARY), (1, 2)))
+        self.assertEqual(combined([BINARY], (1,)), combined((BINARY,), [1]))
+        self.assertEqual(LineFunction(ROWS), LineFunction(tuple(ROWS)))
+
+    def test_lists_that_are_changed_afterwards(self):
+        given = [1, -1, 0]
+        digit_set = DigitSet(2, given)
+        given[:] = [5]
+        self.assertEqual((digit_set.digits, len(digit_set)), ((-1, 0, 1), 3))
+        rows = list(ROWS)
+        function = LineFunction(rows)
+        rows.append(((3, 1), (9, 1)))
+        rows[0] = ((0, 1), (7, 1))
+        self.assertEqual((function.points(), len(function)), (ROWS, 2))
+        sets, factors = [BINARY, BINARY], [1, 1]
+        both = combined(sets, factors)
+        sets.clear()
+        factors.clear()
+        self.assertEqual(both.digits, (-2, -1, 0, 1, 2))
+
+    def test_arguments_are_not_modified(self):
+        given, rows, sets, factors = [1, -1, 0], list(ROWS), [BINARY, DigitSet(2, [1, 0])], [3, -1]
+        before = copy.deepcopy((given, rows, factors))
+        DigitSet(2, given)
+        LineFunction(rows)
+        combined(sets, factors)
+        self.assertEqual((given, rows, factors), before)
+        self.assertEqual(sets, [BINARY, DigitSet(2, (0, 1))])
+
+    def test_functions_do_not_change_their_arguments(self):
+        one, other = LineFunction(ROWS), straight((-1, 1), (2, 1), (0, 1), (2, 1))
+        before = (one.points(), other.points())
+        for call in (add_lines, max_lines):
+            call(one, other)
+        compose_lines(one, other)
+        scale_line(one, (0, 1))
+        restrict_line(one, (1, 2), (3, 2))
+        self.assertEqual((one.points(), other.points()), before)
+
+    def test_returned_lists_are_new(self):
+        function = LineFunction(ROWS)
+        returned = function.points()
+        returned.append(((3, 1), (9, 1)))
+        returned[0] = None
+        self.assertEqual(function.points(), ROWS)
+        self.assertIsNot(function.points(), function.points())
+        self.assertEqual((function.low(), function.value((0, 1)), len(function)), ((0, 1), (0, 1), 2))
+
+    def test_a_changed_result_does_not_change_where_it_came_from(self):
+        function = LineFunction(ROWS)
+        restrict_line(function, (0, 1), (2, 1)).points().clear()
+        max_lines(function, function).points().clear()
+        self.assertEqual(function.points(), ROWS)
+
+    def test_errors_change_nothing(self):
+        function, digit_set = LineFunction(ROWS), DigitSet(2, [1, -1, 0])
+        self.assertRaises(OutOfRange, function.value, (3, 1))
+        self.assertRaises(OutOfRange, restrict_line, function, (0, 1), (3, 1))
+        self.assertRaises(InvalidRow, digit_set.value, (1, 2))
+        self.assertRaises(OutOfRange, digit_set.row_of, (2, 1), 3)
+        rows = ROWS[::-1]
+        self.assertRaises(InvalidPoints, LineFunction, rows)
+        self.assertEqual((function.points(), digit_set, rows), (ROWS, BINARY, ROWS[::-1]))
+
+    def test_the_same_call_returns_the_same_result(self):
+        function = LineFunction(ROWS)
+        for call in (lambda: BINARY.row_of((1, 3), 50), lambda: max_lines(function, function).points(),
+                     lambda: combined([BINARY, BINARY], [1, 2]).digits):
+            self.assertEqual(call(), call())
+
+
+class ExactTest(unittest.TestCase):
+    def test_numbers_that_floats_cannot_tell_apart(self):
+        low, high = (999999999998, 999999999999), (999999999999, 1000000000000)
+        function = straight((1, 999999999999), (1, 3), low, high)
+        self.assertNotEqual(function.value(low), function.value(high))
+        self.assertEqual(function.value(low), pair(Fraction(1, 999999999999) * Fraction(*low) + Fraction(1, 3)))
+
+    def test_long_rows_are_told_apart(self):
+        one = BINARY.value((1,) * 199 + (0,))
+        other = BINARY.value((1,) * 200)
+        self.assertEqual((other[0] * one[1] - one[0] * other[1], one[1] * other[1]), (2 ** 199, 2 ** 399))
+
+
+if __name__ == "__main__":
+    unittest.main()
