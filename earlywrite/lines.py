@@ -62,10 +62,7 @@ class LineFunction:
         """Return the value at a number."""
         if not is_within(number, self.low(), self.high()):
             raise OutOfRange()
-        at = 1
-        while is_less(self.corners[at][0], number):
-            at += 1
-        return height_at(self.corners[at - 1], self.corners[at], number)
+        return height_on(self.corners, number)
 
 
 def is_ascending(numbers):
@@ -91,6 +88,20 @@ def slope_of(left, right):
 def height_at(left, right, x):
     """Return y at x on the line through two points."""
     return sum_of(left[1], product(slope_of(left, right), difference(x, left[0])))
+
+
+def height_on(points, x):
+    """Return y at x on the line through all of the points; x is not outside of them."""
+    at = 1
+    while is_less(points[at][0], x):
+        at += 1
+    return height_at(points[at - 1], points[at], x)
+
+
+def cut_points(points, low, high):
+    """Return the tuple of the points of the line through some points, from low to high only."""
+    inner = [(x, y) for x, y in points if is_between(x, low, high)]
+    return ((low, height_on(points, low)), *inner, (high, height_on(points, high)))
 
 
 def straight(slope, offset, low, high):
@@ -173,8 +184,7 @@ def restrict_line(function, low, high):
     """Return a line function on a smaller interval."""
     if not is_less(low, high) or is_less(low, function.low()) or is_less(function.high(), high):
         raise OutOfRange()
-    inner = [(x, y) for x, y in function.points() if is_between(x, low, high)]
-    return LineFunction([(low, function.value(low)), *inner, (high, function.value(high))])
+    return LineFunction(cut_points(function.corners, low, high))
 
 
 def compose_lines(outer, inner):

@@ -1,11 +1,15 @@
 """What several test files use."""
 
+import itertools
 from fractions import Fraction
 
 from earlywrite.digits import DigitSet
+from earlywrite.errors import EarlyError, UndefinedName
 from earlywrite.lines import LineFunction
 
 BINARY = DigitSet(2, (-1, 0, 1))
+WIDE = DigitSet(2, (-2, -1, 0, 1, 2))
+BITS = DigitSet(2, (0, 1))
 
 
 def pair(number):
@@ -53,3 +57,57 @@ def sample_numbers(function, parts=24):
     xs = [x for x, y in plain(function)]
     low, high = xs[0], xs[-1]
     return sorted(set(xs) | {low + (high - low) * Fraction(k, parts) for k in range(parts + 1)})
+
+
+def caught(call, *arguments, **keywords):
+    """The error that a call raises, as a tuple of its tag and the values of its other attributes."""
+    try:
+        call(*arguments, **keywords)
+    except (EarlyError, UndefinedName) as error:
+        return (error.tag, *[value for name, value in vars(error).items() if name != "tag"])
+    raise AssertionError(f"{call.__name__} raised nothing")
+
+
+# The steps of [10], written a second time with Python's own fractions: points are tuples of pairs (x, y).
+
+
+def own_ends(digit_set):
+    return (Fraction(digit_set.digits[0], digit_set.base - 1), Fraction(digit_set.digits[-1], digit_set.base - 1))
+
+
+def own_read(rows, read, digit):
+    low, high = own_ends(read)
+    inner = [read.base * x - digit for x, y in rows]
+    places = [low] + [z for z in inner if low < z < high] + [high]
+    return tuple([(z, value_at(rows, (digit + z) / read.base)) for z in places])
+
+
+def own_write(rows, write, digit):
+    return tuple([(x, write.base * y - digit) for x, y in rows])
+
+
+def own_safe(rows, write):
+    low, high = own_ends(write)
+    return all(low <= y <= high for x, y in rows)
+
+
+def own_points(rows):
+    """Points of the package as those of the steps above."""
+    return tuple([(Fraction(*x), Fraction(*y)) for x, y in rows])
+
+
+def own_value(row, base):
+    return sum((Fraction(digit, base ** (at + 1)) for at, digit in enumerate(row)), Fraction(0))
+
+
+def shaped(read, write, *rows):
+    """A function from the reading interval into the writing one: 0 and 1 stand for the ends of both."""
+    low, high = own_ends(read)
+    bottom, top = own_ends(write)
+    return line(*[(low + (high - low) * Fraction(x), bottom + (top - bottom) * Fraction(y)) for x, y in rows])
+
+
+def all_rows(digits, longest):
+    """All rows of up to so many digits, the shortest and then least ones first."""
+    for length in range(longest + 1):
+        yield from itertools.product(digits, repeat=length)

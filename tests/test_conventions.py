@@ -5,11 +5,15 @@ import inspect
 import unittest
 from fractions import Fraction
 
-from earlywrite import digits, lines, rationals
+from earlywrite import delays, digits, expressions, lines, machines, rationals, remaining
+from earlywrite.delays import check_refutation, check_table, count_states, decide, least_delay
 from earlywrite.digits import DigitSet, combined
 from earlywrite.errors import InvalidPoints, InvalidRow, OutOfRange
+from earlywrite.expressions import compile_expression, evaluate, names_in, parse_expression
 from earlywrite.lines import LineFunction, add_lines, compose_lines, max_lines, restrict_line, scale_line, straight
-from helpers import BINARY, pair, points
+from earlywrite.machines import Machine, compose, find_unlike, judge, machine_of, trim
+from earlywrite.remaining import after_read, after_write
+from helpers import BINARY, WIDE, caught, line, pair, points
 
 ROWS = points([(0, 0), (1, 3), (2, 2)])
 
@@ -21,6 +25,25 @@ FUNCTIONS = {
         "min_lines": "one, other", "scale_line": "function, factor", "abs_line": "function",
         "restrict_line": "function, low, high", "compose_lines": "outer, inner",
     },
+    expressions: {
+        "is_name": "text", "parse_expression": "text", "format_expression": "expression", "names_in": "expression",
+        "evaluate": "expression, number, *, definitions=()",
+        "compile_expression": "expression, low, high, *, definitions=()",
+    },
+    remaining: {
+        "after_read": "function, read, digit", "after_write": "function, write, digit", "is_safe": "function, write",
+    },
+    delays: {
+        "count_states": "function, read, write, delay, *, limit=400",
+        "decide": "function, read, write, delay, *, limit=400",
+        "least_delay": "function, read, write, *, first=-6, last=9, limit=400",
+        "check_table": "function, read, write, delay, table",
+        "check_refutation": "function, read, write, delay, refutation",
+    },
+    machines: {
+        "machine_of": "table, read, write, delay", "judge": "machine, function, *, limit=3000",
+        "find_unlike": "one, other, *, limit=3000", "compose": "first, second", "trim": "machine",
+    },
 }
 METHODS = {
     DigitSet: {
@@ -30,6 +53,10 @@ METHODS = {
     LineFunction: {
         "__init__": "self, points", "points": "self", "low": "self", "high": "self", "least": "self",
         "greatest": "self", "value": "self, number",
+    },
+    Machine: {
+        "__init__": "self, read, write, delay, states", "__len__": "self", "__eq__": "self, other", "__repr__": "self",
+        "read_set": "self", "write_set": "self", "delay": "self", "states": "self", "run": "self, row",
     },
 }
 
@@ -119,6 +146,88 @@ class ArgumentsTest(unittest.TestCase):
         function = LineFunction(ROWS)
         for call in (lambda: BINARY.row_of((1, 3), 50), lambda: max_lines(function, function).points(),
                      lambda: combined([BINARY, BINARY], [1, 2]).digits):
+            self.assertEqual(call(), call())
+
+
+class WritersTest(unittest.TestCase):
+    """The same rules for expressions, tables, refutations and machines."""
+
+    def setUp(self):
+        self.average = straight((1, 2), (0, 1), (-2, 1), (2, 1))
+        self.task = (self.average, WIDE, BINARY)
+        self.definitions = [("half", parse_expression("1/2*x")), ("clip", parse_expression("max(half(x), 0)"))]
+
+    def test_tuples_instead_of_lists(self):
+        expression = parse_expression("(clip(x) - half(1))")
+        for call, *rest in ((evaluate, (1, 3)), (compile_expression, (-1, 1), (1, 1))):
+            self.assertEqual(call(expression, *rest, definitions=tuple(self.definitions)),
+                             call(expression, *rest, definitions=self.definitions))
+        table, refutation = least_delay(*self.task)[1:]
+        self.assertTrue(check_table(*self.task, 1, tuple([(row[0], tuple(row[1]), tuple(row[2])) for row in table])))
+        self.assertTrue(check_refutation(*self.task, 0, tuple([(*row[:1], tuple(row[1]), row[2], tuple(row[3]))
+                                                               for row in refutation])))
+        states = machine_of(table, WIDE, BINARY, 1).states()
+        given = tuple([(phase, tuple(moves)) for phase, moves in states])
+        self.assertEqual(Machine(WIDE, BINARY, 1, given), Machine(WIDE, BINARY, 1, states))
+
+    def test_arguments_are_not_modified(self):
+        table, refutation = least_delay(*self.task)[1:]
+        states = machine_of(table, WIDE, BINARY, 1).states()
+        before = copy.deepcopy((self.definitions, table, refutation, states))
+        expression = parse_expression("(clip(x) - half(1))")
+        evaluate(expression, (1, 3), definitions=self.definitions)
+        compile_expression(expression, (-1, 1), (1, 1), definitions=self.definitions)
+        check_table(*self.task, 1, table)
+        check_refutation(*self.task, 0, refutation)
+        machine_of(table, WIDE, BINARY, 1)
+        machine = Machine(WIDE, BINARY, 1, states)
+        judge(machine, self.average)
+        find_unlike(machine, trim(machine))
+        self.assertEqual((self.definitions, table, refutation, states), before)
+        self.assertEqual((machine.states(), self.average.points()), (states, points([(-2, -1), (2, 1)])))
+
+    def test_lists_that_are_changed_afterwards(self):
+        table = least_delay(*self.task)[1]
+        machine = machine_of(table, WIDE, BINARY, 1)
+        written = machine.run((1, 1, -2, 0))
+        for row in table:
+            row[1].clear()
+            row[2].clear()
+        table.clear()
+        self.assertEqual(machine.run((1, 1, -2, 0)), written)
+        self.assertIsNone(judge(machine, self.average))
+
+    def test_returned_lists_are_new(self):
+        expression = parse_expression("(clip(x) - half(1))")
+        for call in (lambda: names_in(expression), lambda: decide(*self.task, 1)[1], lambda: decide(*self.task, 0)[1],
+                     lambda: least_delay(*self.task)[1], lambda: least_delay(*self.task)[2],
+                     lambda: compose(trim(machine_of(decide(*self.task, 1)[1], WIDE, BINARY, 1)),
+                                     Machine(BINARY, BINARY, 0, [(0, [(0, 0)] * 3)])).states()):
+            before = copy.deepcopy(call())
+            returned = call()
+            for row in returned:
+                for part in row:
+                    if isinstance(part, list):
+                        part.clear()
+            returned.clear()
+            self.assertEqual(call(), before)
+
+    def test_errors_change_nothing(self):
+        machine = Machine(BINARY, BINARY, 0, [(0, [(-1, 0), (0, 0), (1, 0)])])
+        before = copy.deepcopy(machine.states())
+        for call, *rest in ((machine.run, (2,)), (judge, machine, self.average),
+                            (find_unlike, machine, machine_of(decide(*self.task, 1)[1], WIDE, BINARY, 1)),
+                            (after_read, self.average, WIDE, 3), (after_write, self.average, BINARY, 3),
+                            (count_states, *self.task, 99), (decide, *self.task, 99),
+                            (Machine, BINARY, BINARY, 0, [(0, [(7, 7)] * 3)])):
+            caught(call, *rest)
+        self.assertEqual((machine.states(), machine.run((1, 0))), (before, (1, 0)))
+        self.assertEqual(self.average, line((-2, -1), (2, 1)))
+
+    def test_the_same_call_returns_the_same_result(self):
+        machine = machine_of(decide(*self.task, 2)[1], WIDE, BINARY, 2)
+        for call in (lambda: decide(*self.task, 2), lambda: decide(*self.task, 0), lambda: least_delay(*self.task),
+                     lambda: trim(machine).states(), lambda: judge(machine, line((-2, 0), (2, 1)))):
             self.assertEqual(call(), call())
 
 

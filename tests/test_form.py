@@ -20,6 +20,12 @@ ALLOWED_SPECIAL = {"__init__", "__eq__", "__repr__", "__str__", "__len__", "__en
 BARRED_WORDS = re.compile(
     r"\b(type|typing|typing_extensions|enum|Enum|IntEnum|StrEnum|Flag|IntFlag|Generic|Protocol|ABC|ABCMeta"
     r"|namedtuple|NamedTuple|TypedDict|TYPE_CHECKING|abstractmethod)\b|dataclass|overload|contextmanager")
+CHANGING = {"append", "clear", "extend", "insert", "pop", "remove", "reverse", "setdefault", "update", "sort"}
+ALLOWED_METHODS = set("""
+    append clear copy count endswith extend find get index insert isalnum isalpha isdigit islower isspace isupper items
+    join keys ljust lower lstrip partition pop remove replace reverse rfind rjust rpartition rsplit rstrip setdefault
+    split splitlines startswith strip update upper values zfill bit_length
+""".split())
 TAKE_A_LIST = {"any", "all", "min", "max", "sum", "sorted"}
 
 
@@ -29,6 +35,17 @@ def nodes(path, *kinds):
 
 def functions(path):
     return nodes(path, ast.FunctionDef)
+
+
+def defined_names(path):
+    """The names that a file defines at module level."""
+    names = []
+    for node in ast.parse(path.read_text()).body:
+        if isinstance(node, (ast.FunctionDef, ast.ClassDef)):
+            names.append(node.name)
+        elif isinstance(node, ast.Assign):
+            names.extend([target.id for target in node.targets])
+    return names
 
 
 def bound_names(path):
@@ -66,6 +83,61 @@ class FormTest(unittest.TestCase):
                     self.assertEqual(node.level, 0)
                     self.assertRegex(node.module, r"^earlywrite\.[a-z]+$")
                     self.assertNotIn("*", [alias.name for alias in node.names])
+
+    def test_imports_name_the_file_that_defines_a_name(self):
+        for path in FILES:
+            with self.subTest(path.name):
+                text = path.read_text()
+                for node in nodes(path, ast.ImportFrom):
+                    source = PACKAGE / (node.module.split(".")[1] + ".py")
+                    for alias in node.names:
+                        self.assertIn(alias.name, defined_names(source))
+                        # The import itself is one occurrence.
+                        self.assertGreater(len(re.findall(rf"\b{alias.name}\b", text)), 1, alias.name)
+
+    def test_no_two_files_import_from_each_other(self):
+        needed = {path.stem: {node.module.split(".")[1] for node in nodes(path, ast.ImportFrom)} for path in FILES}
+        while needed:
+            free = [name for name in needed if not needed[name] & set(needed)]
+            self.assertTrue(free, needed)
+            for name in free:
+                del needed[name]
+
+    def test_names_are_bound_once_at_module_level(self):
+        for path in FILES:
+            with self.subTest(path.name):
+                names = defined_names(path) + [alias.name for node in nodes(path,
+                                                                            ast.ImportFrom) for alias in node.names]
+                self.assertEqual(len(names), len(set(names)))
+
+    def test_errors_are_raised_where_they_are_made(self):
+        for path in FILES:
+            with self.subTest(path.name):
+                for node in nodes(path, ast.Raise):
+                    self.assertIsInstance(node.exc, ast.Call)
+                    self.assertIn(node.exc.func.id, defined_names(PACKAGE / "errors.py"))
+
+    def test_what_a_loop_goes_over_is_not_changed_in_it(self):
+        for path in FILES:
+            with self.subTest(path.name):
+                for loop in nodes(path, ast.For):
+                    over = {node.id for node in ast.walk(loop.iter) if isinstance(node, ast.Name)}
+                    for node in ast.walk(ast.Module(loop.body, [])):
+                        if isinstance(node, ast.Call) and isinstance(node.func, ast.Attribute):
+                            if node.func.attr in CHANGING and isinstance(node.func.value, ast.Name):
+                                self.assertNotIn(node.func.value.id, over)
+                        if isinstance(node, ast.Subscript) and isinstance(node.ctx, ast.Store):
+                            self.assertFalse({part.id for part in ast.walk(node.value) if isinstance(part,
+                                                                                                     ast.Name)} & over)
+
+    def test_methods_of_builtin_values(self):
+        own = {part.name for path in FILES for owner in nodes(path, ast.ClassDef) for part in owner.body
+               if isinstance(part, ast.FunctionDef)}
+        for path in FILES:
+            with self.subTest(path.name):
+                for node in nodes(path, ast.Call):
+                    if isinstance(node.func, ast.Attribute):
+                        self.assertIn(node.func.attr, own | ALLOWED_METHODS)
 
     def test_only_exact_arithmetic(self):
         for path in FILES:
