@@ -4,8 +4,9 @@ import itertools
 from fractions import Fraction
 
 from earlywrite.digits import DigitSet
-from earlywrite.errors import EarlyError, UndefinedName
+from earlywrite.errors import EarlyError, EmptyHistory, UndefinedName
 from earlywrite.lines import LineFunction
+from earlywrite.workshop import Workshop
 
 BINARY = DigitSet(2, (-1, 0, 1))
 WIDE = DigitSet(2, (-2, -1, 0, 1, 2))
@@ -63,7 +64,7 @@ def caught(call, *arguments, **keywords):
     """The error that a call raises, as a tuple of its tag and the values of its other attributes."""
     try:
         call(*arguments, **keywords)
-    except (EarlyError, UndefinedName) as error:
+    except (EarlyError, UndefinedName, EmptyHistory) as error:
         return (error.tag, *[value for name, value in vars(error).items() if name != "tag"])
     raise AssertionError(f"{call.__name__} raised nothing")
 
@@ -111,3 +112,27 @@ def all_rows(digits, longest):
     """All rows of up to so many digits, the shortest and then least ones first."""
     for length in range(longest + 1):
         yield from itertools.product(digits, repeat=length)
+
+
+# Definitions of all four kinds that need each other; `back` undoes what `up` does.
+EXAMPLE = [
+    ("bin", ("set", 2, (-1, 0, 1))), ("wide", ("set", 2, (-2, -1, 0, 1, 2))), ("bits", ("set", 2, (0, 1))),
+    ("half", ("function", "1/2*x")), ("clip", ("function", "max(-1, min(1, x))")),
+    ("near", ("function", "clip(2*half(x))")),
+    ("slow", ("writer", "half", "bin", "bin")), ("up", ("writer", "near", "bin", "wide")),
+    ("back", ("writer", "clip", "wide", "bin")),
+    ("both", ("pipe", ("slow", "slow"))), ("trip", ("pipe", ("up", "back"))), ("long", ("pipe", ("both", "trip"))),
+]
+
+
+def shop_with(definitions=EXAMPLE):
+    """A workshop in which pairs (name, item) were defined, one after the other."""
+    shop = Workshop()
+    for name, item in definitions:
+        shop.define(name, item)
+    return shop
+
+
+def told(shop):
+    """All that a workshop tells of itself without computing anything."""
+    return ([(name, shop.item(name)) for name in shop.names()], shop.history(), shop.cached(), shop.computations())

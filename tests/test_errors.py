@@ -3,6 +3,15 @@
 import unittest
 
 from earlywrite import errors
+from earlywrite.delays import decide
+from earlywrite.digits import DigitSet
+from earlywrite.documents import parse_workshop
+from earlywrite.expressions import evaluate, parse_expression
+from earlywrite.lines import LineFunction, add_lines, straight
+from earlywrite.machines import Machine
+from earlywrite.rationals import fraction
+from earlywrite.workshop import Workshop
+from helpers import BINARY, BITS, line, shop_with
 
 PLAIN = ["InvalidBase", "InvalidDigits", "InvalidRow", "InvalidPoints", "InvalidDelay", "Incompatible",
          "OutOfRange", "NotRedundant", "InvalidItem"]
@@ -61,6 +70,49 @@ class ErrorsTest(unittest.TestCase):
             raise errors.InvalidMachine(-1)
         for error in (errors.UndefinedName("half"), errors.EmptyHistory()):
             self.assertNotIsInstance(error, errors.EarlyError)
+
+
+class RaisedTest(unittest.TestCase):
+    """Each error, raised by one simple call."""
+
+    def calls(self):
+        shop = shop_with()
+        identity = straight((1, 1), (0, 1), (-1, 1), (1, 1))
+        circle = [("ab", parse_expression("ab(x)"))]
+        return {
+            "InvalidBase": (DigitSet, 1, (0, 1)), "InvalidDigits": (DigitSet, 2, (0, 0)),
+            "InvalidRow": (BINARY.value, (2,)), "InvalidPoints": (LineFunction, []),
+            "InvalidText": (parse_expression, "max(x, 2/4)"), "InvalidDelay": (decide, identity, BINARY, BINARY, 10),
+            "InvalidMachine": (Machine, BINARY, BINARY, 0, [(0, [(0, 0), (0, 0), (0, 1)])]),
+            "Incompatible": (add_lines, identity, line((0, 0), (1, 1))), "OutOfRange": (fraction, 1, 0),
+            "NotRedundant": (decide, line((0, 0), (1, 1)), BITS, BITS, 0),
+            "LimitReached": (decide, line((-1, 0), (0, 1), (1, 0)), BINARY, BINARY, 9),
+            "CircularName": (evaluate, parse_expression("ab(x)"), (0, 1)), "InvalidName": (shop.define, "x", ()),
+            "DuplicateName": (shop.define, "bin", ()), "NameInUse": (shop.delete, "half"),
+            "WrongKind": (shop.machine, "bin"), "InvalidItem": (shop.define, "ab", ()),
+            "InvalidCommand": (shop.batch, [("delete", "long"), ()]),
+            "InvalidDocument": (parse_workshop, "set bin 2 -1 0 1\nfunction half 2/4*x\n"),
+            "UndefinedName": (shop.item, "nope"), "EmptyHistory": (Workshop().undo,),
+        }, {"CircularName": {"definitions": circle}, "LimitReached": {"limit": 1}}
+
+    def test_each_error(self):
+        attributes = {
+            "InvalidText": {"position": 9}, "InvalidMachine": {"state": 0}, "LimitReached": {"limit": 1},
+            "CircularName": {"name": "ab"}, "InvalidName": {"name": "x"}, "DuplicateName": {"name": "bin"},
+            "NameInUse": {"user": "near"}, "WrongKind": {"name": "bin"}, "InvalidCommand": {"position": 1},
+            "InvalidDocument": {"line": 1}, "UndefinedName": {"name": "nope"},
+        }
+        bases = {"UndefinedName": LookupError, "EmptyHistory": IndexError}
+        calls, keywords = self.calls()
+        self.assertEqual(sorted(calls), sorted([*PLAIN, *WITH_ATTRIBUTE, "UndefinedName", "EmptyHistory"]))
+        for name, (call, *arguments) in calls.items():
+            with self.subTest(name):
+                with self.assertRaises(bases.get(name, ValueError)) as context:
+                    call(*arguments, **keywords.get(name, {}))
+                error = context.exception
+                self.assertIs(error.__class__, getattr(errors, name))
+                self.assertEqual(vars(error), {"tag": name, **attributes.get(name, {})})
+                self.assertEqual(isinstance(error, errors.EarlyError), name not in bases)
 
 
 if __name__ == "__main__":

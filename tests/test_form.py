@@ -117,6 +117,14 @@ class FormTest(unittest.TestCase):
                     self.assertIsInstance(node.exc, ast.Call)
                     self.assertIn(node.exc.func.id, defined_names(PACKAGE / "errors.py"))
 
+    def test_only_own_errors_are_caught(self):
+        for path in FILES:
+            with self.subTest(path.name):
+                for handler in nodes(path, ast.ExceptHandler):
+                    caught = handler.type.elts if isinstance(handler.type, ast.Tuple) else [handler.type]
+                    for error in caught:
+                        self.assertIn(error.id, defined_names(PACKAGE / "errors.py"))
+
     def test_what_a_loop_goes_over_is_not_changed_in_it(self):
         for path in FILES:
             with self.subTest(path.name):
